@@ -1,0 +1,1 @@
+"""What can ever come of rules by which roles are given and taken."""
