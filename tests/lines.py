@@ -37,6 +37,30 @@ def can(v, *roles):
     return [6, v, len(roles), *roles]
 
 
+def lose(v, r):
+    return [7, v, r]
+
+
+def never(r, q):
+    return [8, r, q]
+
+
+def guard(v, *roles):
+    return [9, v, len(roles), *roles]
+
+
+def many():
+    return [10]
+
+
+def roles(v):
+    return [11, v]
+
+
+def now():
+    return [12]
+
+
 def flat(calls):
     return [number for call in calls for number in call]
 
@@ -77,3 +101,14 @@ def held(*calls):
     found = ask(*calls, actors(), *looks)[len(calls) + 1:]
     had = [part == [0] for part in found]
     return [[r for r in (1, 2, 3, 4) if had[4 * v + r - 1]] for v in (0, 1, 2)]
+
+
+def house_behind(*calls):
+    """The rules as now tells them, the roles of each user and the actors, behind these calls.
+
+    When one user alone has a role, there is a plan just if that user is an actor.
+    """
+    alone = [[set_(v, 1), can(v, 2), set_(v)] for v in (1, 2, 3)]
+    looks = [now(), roles(1), roles(2), roles(3), set_(1), set_(2), set_(3), strike(0), give(1, 2), *sum(alone, [])]
+    found = ask(*calls, *looks)[len(calls):]
+    return found[0], found[1:4], [v for v in (1, 2, 3) if found[10 + 3 * (v - 1)] != [-3]]

@@ -8,7 +8,7 @@ import random
 import unittest
 from itertools import combinations
 
-from tests.lines import actors, ask, can, do, give_n, set_, strike, take
+from tests.lines import actors, ask, can, do, give_n, guard, lose, many, never, now, roles, set_, strike, take
 
 USERS = (1, 2, 3)
 ROLES = (1, 2, 3, 4)
@@ -137,6 +137,53 @@ class Model:
             return [-1]
         return self.plan(lambda key: set(roles) <= key[v - 1])
 
+    def lose(self, v, r):
+        if v not in USERS or r not in ROLES:
+            return [-1]
+        return self.plan(lambda key: r not in key[v - 1])
+
+    def never(self, r, q):
+        if not {r, q} <= set(ROLES):
+            return [-1]
+        return self.plan(lambda key: any({r, q} <= had for had in key))
+
+    def sure(self, graph, gone, wanted):
+        """Whether nothing wanted can be come to without the rules that are gone."""
+        start = tuple(self.held.values())
+        seen = {start}
+        waiting = [start]
+        while waiting:
+            key = waiting.pop()
+            if wanted(key):
+                return False
+            nexts = {behind for step, behind in graph[key] if step[0] not in gone} - seen
+            seen |= nexts
+            waiting.extend(nexts)
+        return True
+
+    def guard(self, v, roles):
+        if v not in USERS or not rising(roles, ROLES):
+            return [-1]
+        if set(roles) <= self.held[v]:
+            return [-6]
+        graph = self.graph()
+        everything = range(len(self.rules))
+        rows = [gone for count in range(7) for gone in combinations(everything, count)]
+        found = next(gone for gone in rows if self.sure(graph, gone, lambda key: set(roles) <= key[v - 1]))
+        return [len(found), *found]
+
+    def many(self):
+        return [len(self.graph())]
+
+    def roles(self, v):
+        return [len(self.held[v]), *sorted(self.held[v])] if v in USERS else [-1]
+
+    def now(self):
+        told = [len(self.rules)]
+        for gives, a, r, needed, barred in self.rules:
+            told += [int(gives), a, r, len(needed or ()), *sorted(needed or ()), len(barred or ()), *sorted(barred or ())]
+        return told
+
 
 class Chance:
     """Draws calls, mostly such as are not refused; the same ones for the same seed."""
@@ -157,9 +204,11 @@ class Chance:
 
     def draw(self, rules):
         """One call as it lies in the list, and as it is asked of the model."""
-        kinds = ["set"] * 2 + ["give"] * 5 + ["take"] * 2 + ["actors"] + ["do"] * 3 + ["can"] * 6
+        kinds = ["set"] * 2 + ["give"] * 5 + ["take"] * 2 + ["actors"] + ["do"] * 3 + ["question"] * 9
         kind = self.random.choice(kinds + ["strike"] * (1 + 3 * (rules == 6)))
         k = self.random.randint(0, max(rules, 1))
+        if kind == "question":
+            return self.draw_question()
         if kind == "set":
             v, row = self.number(3), self.row(4)
             return set_(v, *row), lambda model: model.set(v, row)
@@ -175,11 +224,26 @@ class Chance:
         if kind == "actors":
             row = self.row(3, 0.8)
             return actors(*row), lambda model: model.name_actors(row)
-        if kind == "do":
-            u, v = self.number(3), self.number(3)
-            return do(k, u, v), lambda model: model.do(k, u, v)
-        v, row = self.number(3), self.row(4)
-        return can(v, *row), lambda model: model.can(v, row)
+        u, v = self.number(3), self.number(3)
+        return do(k, u, v), lambda model: model.do(k, u, v)
+
+    def draw_question(self):
+        """One call that changes nothing."""
+        v, r, q, row = self.number(3), self.number(4), self.number(4), self.row(4)
+        return self.random.choice(questions(v, r, q, row))
+
+
+def questions(v, r, q, row):
+    """All calls that change nothing, each as it lies in the list and as it is asked of the model."""
+    return [
+        (can(v, *row), lambda model: model.can(v, row)),
+        (lose(v, r), lambda model: model.lose(v, r)),
+        (never(r, q), lambda model: model.never(r, q)),
+        (guard(v, *row), lambda model: model.guard(v, row)),
+        (many(), lambda model: model.many()),
+        (roles(v), lambda model: model.roles(v)),
+        (now(), lambda model: model.now()),
+    ]
 
 
 def fill(model, had, rules):
@@ -212,18 +276,37 @@ class ModelTest(unittest.TestCase):
                 expected.append(asked(model))
             self.assertEqual(ask(*calls), expected, (seed, calls))
 
-    def test_long_plans(self):
-        wanted = [(v, row) for v in USERS for count in (1, 2) for row in combinations(ROLES, count)]
-        longest = 0
+    def asked_everywhere(self, wanted):
+        """Asks this of the winding houses, with several actors; gives back all that is answered."""
+        told = []
         for had, rules in WINDING:
             for users in ([1, 2, 3], [1, 2], [1, 3], [2, 3], [3]):
                 model = Model()
                 calls = fill(model, had, rules) + [actors(*users)]
                 model.name_actors(users)
-                expected = [model.can(v, row) for v, row in wanted]
-                self.assertEqual(ask(*calls, *[can(v, *row) for v, row in wanted])[10:], expected, (had, users))
-                longest = max(longest, max(told[0] for told in expected))
-        self.assertEqual(longest, 13)
+                expected = [asked(model) for call, asked in wanted]
+                self.assertEqual(ask(*calls, *[call for call, asked in wanted])[10:], expected, (had, users))
+                told.extend(expected)
+        return told
+
+    def test_long_plans(self):
+        rows = [(v, row) for v in USERS for count in (1, 2) for row in combinations(ROLES, count)]
+        told = self.asked_everywhere([questions(v, 1, 1, row)[0] for v, row in rows])
+        self.assertEqual(max(plan[0] for plan in told), 13)
+
+    def test_long_plans_to_lose(self):
+        told = self.asked_everywhere([questions(v, r, 1, ())[1] for v in USERS for r in ROLES])
+        self.assertEqual(max(plan[0] for plan in told), 6)
+
+    def test_long_plans_to_have_both(self):
+        told = self.asked_everywhere([questions(1, r, q, ())[2] for r in ROLES for q in ROLES if r <= q])
+        self.assertEqual(max(plan[0] for plan in told), 8)
+
+    def test_guards_and_ways(self):
+        rows = [(v, row) for v in USERS for count in (1, 2) for row in combinations(ROLES, count)][::3]
+        guards = [questions(v, 1, 1, row)[3] for v, row in rows]
+        told = self.asked_everywhere(guards + [questions(1, 1, 1, ())[4]])
+        self.assertGreater(max(part[0] for part in told), 100)
 
 
 if __name__ == "__main__":

@@ -24,3 +24,8 @@ def role_bits(user, roles):
 def roles_held(held, user):
     """The roles that the user has, rising."""
     return [role for role in ROLES if (held & role_bit(user, role)) != 0]
+
+
+def users_holding(held, role, users):
+    """Those of the users who have the role, in their order."""
+    return [user for user in users if (held & role_bit(user, role)) != 0]

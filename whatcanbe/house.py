@@ -1,8 +1,8 @@
 """One house, and the calls about it; each call answers a list of whole numbers."""
 
-from whatcanbe.holding import ROLES, USERS, role_bits, roles_held
-from whatcanbe.plans import find_plan, tell_plan
-from whatcanbe.steps import Rule, make_step, steps_of
+from whatcanbe.holding import ROLES, USERS, role_bit, role_bits, roles_held
+from whatcanbe.plans import count_ways, find_guard, find_plan, tell_plan
+from whatcanbe.steps import Move, Rule, moves_of
 
 MOST_RULES = 6
 
@@ -11,6 +11,7 @@ NO_SUCH_RULE = -2
 NO_PLAN = -3
 TOO_MANY_RULES = -5
 NOT_ALLOWED = -6
+HELD_ALREADY = -6
 
 
 class House:
@@ -103,17 +104,16 @@ def do_step(house, k, u, v):
         return [NOT_AS_TOLD]
     if k >= len(house.rules):
         return [NO_SUCH_RULE]
-    step = make_step(house.rules, k, u, v)
-    if not step.may_be_done(house.held):
+    move = Move(k, house.rules[k], [u], v)
+    if not move.may_be_done(house.held):
         return [NOT_ALLOWED]
-    house.held = step.held_behind(house.held)
-    return tell_roles(house, v)
+    house.held = move.held_behind(house.held)
+    return tell_row(roles_held(house.held, v))
 
 
-def tell_roles(house, v):
-    """How many roles the user has, then these."""
-    roles = roles_held(house.held, v)
-    return [len(roles)] + roles
+def tell_row(row):
+    """How many numbers the row has, then these."""
+    return [len(row)] + row
 
 
 def can_have(house, v, roles):
@@ -124,9 +124,62 @@ def can_have(house, v, roles):
     return plan_for(house, lambda held: (held & wanted) == wanted)
 
 
-def plan_for(house, is_reached):
+def can_lose(house, v, r):
+    """The call lose."""
+    if not is_user(v) or not is_role(r):
+        return [NOT_AS_TOLD]
+    unwanted = role_bit(v, r)
+    return plan_for(house, lambda held: (held & unwanted) == 0)
+
+
+def can_never(house, r, q):
+    """The call never."""
+    if not is_role(r) or not is_role(q):
+        return [NOT_AS_TOLD]
+    pairs = [role_bits(user, [r, q]) for user in USERS]
+    return plan_for(house, lambda held: any([(held & pair) == pair for pair in pairs]))
+
+
+def plan_for(house, is_wanted):
     """The plan told for what is held to be as wanted, unless there is none."""
-    plan = find_plan(house.held, steps_of(house.rules, house.actors), is_reached)
+    plan = find_plan(house.held, moves_of(house.rules, house.actors), is_wanted)
     if plan is None:
         return [NO_PLAN]
     return tell_plan(plan)
+
+
+def guard(house, v, roles):
+    """The call guard."""
+    if not is_user(v) or not are_roles(roles):
+        return [NOT_AS_TOLD]
+    wanted = role_bits(v, roles)
+    if (house.held & wanted) == wanted:
+        return [HELD_ALREADY]
+    moves = moves_of(house.rules, house.actors)
+    return tell_row(find_guard(house.held, moves, len(house.rules), lambda held: (held & wanted) == wanted))
+
+
+def count_many(house):
+    """The call many."""
+    return [count_ways(house.held, moves_of(house.rules, house.actors))]
+
+
+def tell_roles(house, v):
+    """The call roles."""
+    if not is_user(v):
+        return [NOT_AS_TOLD]
+    return tell_row(roles_held(house.held, v))
+
+
+def tell_rule(rule):
+    """1 if the rule is to give, else 0; its two roles; its two rows."""
+    gives = 1 if rule.gives else 0
+    return [gives, rule.admin, rule.role] + tell_row(rule.needed) + tell_row(rule.barred)
+
+
+def tell_rules(house):
+    """The call now."""
+    told = [len(house.rules)]
+    for rule in house.rules:
+        told.extend(tell_rule(rule))
+    return told

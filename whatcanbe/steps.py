@@ -1,6 +1,6 @@
 """Rules, and the steps that are done by them."""
 
-from whatcanbe.holding import USERS, role_bit, role_bits
+from whatcanbe.holding import USERS, role_bit, role_bits, users_holding
 
 
 class Rule:
@@ -14,42 +14,50 @@ class Rule:
         self.barred = barred
 
 
-class Step:
-    """A step as it is told, with the bits it asks for and the one it changes."""
+class Move:
+    """What rule k does to one user, whichever of the doers does it.
 
-    def __init__(self, told, present, absent, change):
-        self.told = told
-        self.present = present
-        self.absent = absent
-        self.change = change
+    Who does it makes no difference to what is held behind it, so a search goes
+    by moves, of which there are fewer than steps.
+    """
+
+    def __init__(self, k, rule, doers, whom):
+        self.k = k
+        self.admin = rule.admin
+        self.doers = doers
+        self.whom = whom
+        self.entitled = sum([role_bit(who, rule.admin) for who in doers])
+        self.change = role_bit(whom, rule.role)
+        self.present = role_bits(whom, rule.needed)
+        self.absent = role_bits(whom, rule.barred)
+        if rule.gives:
+            self.absent = self.absent | self.change
+        else:
+            self.present = self.present | self.change
 
     def may_be_done(self, held):
-        """Whether the step may be done when this is held."""
-        return (held & self.present) == self.present and (held & self.absent) == 0
+        """Whether one of the doers may do it when this is held."""
+        if (held & self.entitled) == 0 or (held & self.absent) != 0:
+            return False
+        return (held & self.present) == self.present
 
     def held_behind(self, held):
-        """What is held behind the step, which may be done when this is held."""
+        """What is held behind it, if it may be done when this is held."""
         return held ^ self.change
 
-
-def make_step(rules, k, who, whom):
-    """The step by rule k that one user does to another, or to the same."""
-    rule = rules[k]
-    change = role_bit(whom, rule.role)
-    present = role_bit(who, rule.admin) | role_bits(whom, rule.needed)
-    absent = role_bits(whom, rule.barred)
-    if rule.gives:
-        absent = absent | change
-    else:
-        present = present | change
-    return Step((k, who, whom), present, absent, change)
+    def tell_step(self, held):
+        """The rule, who and whom of its first step, if it may be done when this is held."""
+        return (self.k, users_holding(held, self.admin, self.doers)[0], self.whom)
 
 
-def steps_of(rules, actors):
-    """All steps that the actors may ever do, in the order in which plans are compared."""
-    steps = []
-    for k in range(len(rules)):
-        for who in actors:
-            for whom in USERS:
-                steps.append(make_step(rules, k, who, whom))
-    return steps
+def moves_of(rules, doers):
+    """All that the doers may ever do, in the order in which plans are compared.
+
+    For one rule the first doer who has its role is the same for whomever it is
+    done to, so the order by rule and whom is the one by rule, who and whom.
+    """
+    moves = []
+    for k, rule in enumerate(rules):
+        for whom in USERS:
+            moves.append(Move(k, rule, doers, whom))
+    return moves
